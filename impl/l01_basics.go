@@ -1,0 +1,79 @@
+package impl
+
+import (
+	"strconv"
+	"strings"
+)
+
+// Codes and limits.
+const (
+	OK          = 0
+	ErrInvalid  = 1
+	ErrRange    = 2
+	ErrNotFound = 3
+	ErrExists   = 4
+	ErrFull     = 5
+	ErrState    = 6
+	ErrSyntax   = 7
+	ErrFormat   = 8
+	ErrClash    = 9
+	ErrFlood    = 10
+
+	MaxName = 12
+)
+
+const maxDigits = 18
+
+// codeNames holds the name of each code at the index of its value.
+var codeNames = [...]string{
+	"ok", "invalid", "range", "not-found", "exists", "full",
+	"state", "syntax", "format", "clash", "flood",
+}
+
+// CodeName returns the name of a code.
+func CodeName(code int64) string {
+	if !within(code, 0, int64(len(codeNames))-1) {
+		return ""
+	}
+	return codeNames[code]
+}
+
+// IsName reports whether s is a name.
+func IsName(s string) bool {
+	if !within(int64(len(s)), 1, MaxName) {
+		return false
+	}
+	for i, r := range s {
+		if !isSmallLetter(r) && (i == 0 || !isDigit(r) && r != '-') {
+			return false
+		}
+	}
+	return true
+}
+
+// Decimal returns the decimal form of a number.
+func Decimal(n int64) string { return strconv.FormatInt(n, 10) }
+
+// ReadDecimal returns the number with a decimal form.
+func ReadDecimal(s string) (int64, bool) {
+	if len(strings.TrimPrefix(s, "-")) > maxDigits {
+		return 0, false
+	}
+	n, err := strconv.ParseInt(s, 10, 64)
+	// ParseInt also takes +1, -0 and 01, which are the Decimal of no number.
+	if err != nil || Decimal(n) != s {
+		return 0, false
+	}
+	return n, true
+}
+
+// SplitWords returns the parts of a text without blanks.
+func SplitWords(s string) []string {
+	return strings.FieldsFunc(s, func(r rune) bool { return r == ' ' })
+}
+
+func within(n, low, high int64) bool { return low <= n && n <= high }
+
+func isSmallLetter(r rune) bool { return 'a' <= r && r <= 'z' }
+
+func isDigit(r rune) bool { return '0' <= r && r <= '9' }

@@ -1,0 +1,99 @@
+package tests
+
+import (
+	"math"
+	"slices"
+	"strings"
+	"testing"
+)
+
+// spareMark fills the unused capacity of an argument, where a write would show.
+const spareMark = 123456789
+
+// extremes are numbers at and around the ends of int64, and near 0.
+var extremes = []int64{
+	math.MinInt64, math.MinInt64 + 1, math.MinInt64 / 2, -1, 0, 1, math.MaxInt64 / 2, math.MaxInt64 - 1, math.MaxInt64,
+}
+
+// oddTexts are texts that no reader should stumble over.
+var oddTexts = []string{
+	"", " ", "\x00", "\xff", "\xff\xfe m", "\xc3", "é", "日本", "\u0660", "１", "\u00a0", "-", "+", ".", ".m", "+.m", "-.00m",
+	"+m.00", strings.Repeat("9", 5000), "-" + strings.Repeat("0", 5000), strings.Repeat(" ", 5000),
+}
+
+// oddLists are nil, empty, short, full and far too long lists, with numbers of every size.
+func oddLists() [][]int64 {
+	lists := [][]int64{nil, {}, filled(60, 0), filled(61, 0), filled(60, math.MaxInt64), filled(61, math.MinInt64), filled(10000, 1)}
+	for _, n := range extremes {
+		lists = append(lists, []int64{n}, []int64{n, n}, []int64{5, n, -5}, []int64{math.MaxInt64, n, math.MinInt64})
+	}
+	return append(lists, slices.Clone(extremes))
+}
+
+// filled returns a list with many times the number n.
+func filled(many int, n int64) []int64 { return slices.Repeat([]int64{n}, many) }
+
+// textsOver returns all texts of at most length bytes of an alphabet.
+func textsOver(alphabet string, length int) []string {
+	texts := []string{""}
+	for first := 0; length > 0; length-- {
+		longest := texts[first:]
+		first = len(texts)
+		for _, text := range longest {
+			for i := range alphabet {
+				texts = append(texts, text+alphabet[i:i+1])
+			}
+		}
+	}
+	return texts
+}
+
+// checkPure calls f twice with equal lists, and fails if the results differ, or if the list, or
+// its unused capacity, has been changed.
+func checkPure[R any](t *testing.T, list []int64, f func([]int64) R, same func(a, b R) bool) R {
+	t.Helper()
+	backing := append(slices.Clone(list), filled(8, spareMark)...)
+	before := slices.Clone(backing)
+	first := f(backing[:len(list)])
+	if !slices.Equal(backing, before) {
+		t.Fatalf("%v has been changed to %v", before, backing)
+	}
+	if again := f(slices.Clone(list)); !same(first, again) {
+		t.Fatalf("%v: %v is followed by %v", list, first, again)
+	}
+	return first
+}
+
+// checkNewList is checkPure for a function with a list as its result, which must share no memory
+// with the argument, nor with another result.
+func checkNewList(t *testing.T, list []int64, f func([]int64) ([]int64, int64)) ([]int64, int64) {
+	t.Helper()
+	var code int64
+	result := checkPure(t, list, func(l []int64) []int64 { r, c := f(l); code = c; return r }, slices.Equal[[]int64])
+	if code != 0 && len(result) != 0 {
+		t.Fatalf("%v: code %d with the result %v", list, code, result)
+	}
+	argument := slices.Clone(list)
+	other, otherCode := f(argument)
+	if otherCode != code {
+		t.Fatalf("%v: code %d is followed by %d", list, code, otherCode)
+	}
+	overwrite(other)
+	if !slices.Equal(argument, list) {
+		t.Fatalf("%v: the result shares memory with the argument", list)
+	}
+	third, _ := f(argument)
+	overwrite(argument)
+	if !slices.Equal(third, result) {
+		t.Fatalf("%v: the result %v is followed by %v", list, result, third)
+	}
+	return result, code
+}
+
+// overwrite changes a list with its whole capacity.
+func overwrite(list []int64) {
+	list = list[:cap(list)]
+	for i := range list {
+		list[i] = -spareMark
+	}
+}
