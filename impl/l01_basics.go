@@ -72,6 +72,17 @@ func SplitWords(s string) []string {
 	return strings.FieldsFunc(s, func(r rune) bool { return r == ' ' })
 }
 
+// codeFor returns the first error of an argument, and of what is told with it.
+func codeFor(isValid, inRange bool) int64 {
+	if !isValid {
+		return ErrInvalid
+	}
+	if !inRange {
+		return ErrRange
+	}
+	return OK
+}
+
 func within(n, low, high int64) bool { return low <= n && n <= high }
 
 func isSmallLetter(r rune) bool { return 'a' <= r && r <= 'z' }

@@ -91,9 +91,47 @@ func checkNewList(t *testing.T, list []int64, f func([]int64) ([]int64, int64)) 
 }
 
 // overwrite changes a list with its whole capacity.
-func overwrite(list []int64) {
+func overwrite(list []int64) { overwriteWith(list, -spareMark) }
+
+func overwriteWith[E any](list []E, mark E) {
 	list = list[:cap(list)]
 	for i := range list {
-		list[i] = -spareMark
+		list[i] = mark
+	}
+}
+
+// guarded returns a copy of a list with marks in its unused capacity, and a function that fails if
+// the copy or one of the marks has been changed.
+func guarded[E comparable](t *testing.T, list []E, mark E) ([]E, func()) {
+	t.Helper()
+	backing := append(slices.Clone(list), slices.Repeat([]E{mark}, 8)...)
+	before := slices.Clone(backing)
+	return backing[:len(list)], func() {
+		t.Helper()
+		if !slices.Equal(backing, before) {
+			t.Fatalf("%v has been changed to %v", before, backing)
+		}
+	}
+}
+
+// checkFresh overwrites a result of a call: no argument, which unchanged looks at, and no other
+// result may change with it.
+func checkFresh[E comparable](t *testing.T, call func() []E, mark E, unchanged func()) {
+	t.Helper()
+	first, second := call(), call()
+	want := slices.Clone(first)
+	overwriteWith(first, mark)
+	unchanged()
+	if third := call(); !slices.Equal(second, want) || !slices.Equal(third, want) {
+		t.Fatalf("%v is followed by %v and %v", want, second, third)
+	}
+}
+
+// checkZero fails if a result, written with its code at the end, has a code other than OK and is
+// anything but the zero value, as which zero is written.
+func checkZero(t *testing.T, name, result, zero string) {
+	t.Helper()
+	if code := result[strings.LastIndexByte(result, ' ')+1:]; code != "0" && result != zero+" "+code {
+		t.Fatalf("%s: %s", name, result)
 	}
 }
