@@ -90,6 +90,48 @@ func checkNewList(t *testing.T, list []int64, f func([]int64) ([]int64, int64)) 
 	return result, code
 }
 
+// changesOf returns a text with each of its bytes removed, doubled, replaced by every byte, and
+// preceded by every byte.
+func changesOf(text string) []string {
+	var changes []string
+	for i := range text {
+		changes = append(changes, text[:i]+text[i+1:])
+		for b := range 256 {
+			one := string([]byte{byte(b)})
+			changes = append(changes, text[:i]+one+text[i+1:], text[:i]+one+text[i:])
+		}
+	}
+	return changes
+}
+
+// checkReader reads all changes of some texts: what is read must have just this text, as write tells
+// (it writes nothing else than what is valid), and what is not read must be zero.
+func checkReader[V any](t *testing.T, texts []string, read func(string) (V, bool), write func(V) string, isZero func(V) bool) {
+	t.Helper()
+	for _, text := range texts {
+		if v, ok := read(text); !ok || write(v) != text {
+			t.Fatalf("%q is read as %v, %v", text, v, ok)
+		}
+		for _, change := range changesOf(text) {
+			if v, ok := read(change); ok && write(v) != change || !ok && !isZero(v) {
+				t.Fatalf("%q is read as %v, %v", change, v, ok)
+			}
+		}
+	}
+}
+
+// checkDiffer compares all values with copies of each other: each must be the same as itself only.
+func checkDiffer[V any](t *testing.T, values []V, copyOf func(V) V, same func(a, b V) bool) {
+	t.Helper()
+	for i, a := range values {
+		for k, b := range values {
+			if got := same(a, copyOf(b)); got != (i == k) {
+				t.Errorf("%v and %v are told to be the same: %v", a, b, got)
+			}
+		}
+	}
+}
+
 // overwrite changes a list with its whole capacity.
 func overwrite(list []int64) { overwriteWith(list, -spareMark) }
 

@@ -15,6 +15,10 @@ func land(rows, columns int64, heights ...int64) impl.Land {
 	return impl.Land{Rows: rows, Columns: columns, Heights: heights}
 }
 
+func copyOfLand(l impl.Land) impl.Land {
+	return land(l.Rows, l.Columns, slices.Clone(l.Heights)...)
+}
+
 // flatLand returns a land where all cells have the same height.
 func flatLand(rows, columns, height int64) impl.Land {
 	return land(rows, columns, filled(int(rows*columns), height)...)
@@ -162,13 +166,7 @@ func TestSameLand(t *testing.T) {
 		land(1, 2, 3, 4), land(2, 1, 3, 4), land(1, 2, 3, 5), land(1, 2, 2, 4), land(1, 2, 3), land(1, 2, 3, 4, 0), land(1, 3, 3, 4),
 		land(0, 0), land(0, 1), land(1, 0), land(0, 0, 0), land(0, 0, 2001), land(math.MinInt64, 0), land(0, math.MaxInt64),
 	}
-	for i, a := range different {
-		for k, b := range different {
-			if got := impl.SameLand(a, land(b.Rows, b.Columns, slices.Clone(b.Heights)...)); got != (i == k) {
-				t.Errorf("SameLand(%v, %v) = %v", a, b, got)
-			}
-		}
-	}
+	checkDiffer(t, different, copyOfLand, impl.SameLand)
 	if !impl.SameLand(impl.Land{Heights: nil}, impl.Land{Heights: []int64{}}) || !impl.SameLand(impl.Land{Heights: []int64{}}, impl.Land{}) {
 		t.Error("nil and empty Heights are told to differ")
 	}
@@ -513,7 +511,7 @@ func TestRaiseLand(t *testing.T) {
 	}
 	for _, l := range allLands() {
 		for _, height := range pointsAround(l) {
-			want, added := land(l.Rows, l.Columns, slices.Clone(l.Heights)...), int64(0)
+			want, added := copyOfLand(l), int64(0)
 			for i, old := range l.Heights {
 				if old < height {
 					want.Heights[i] = height
@@ -659,24 +657,17 @@ func TestNoTextsOfLands(t *testing.T) {
 	}
 }
 
-// TestReadLandOnChanges changes, removes and doubles each byte of texts of lands: what is read must
-// be valid, and have just this text.
 func TestReadLandOnChanges(t *testing.T) {
-	for _, text := range []string{"-10 0 -5\n", "7\n-7\n10\n", "1 2\n3 -4\n", "2000 -2000\n", "0\n"} {
-		var changes []string
-		for i := range text {
-			changes = append(changes, text[:i]+text[i+1:], text[:i+1]+text[i:])
-			for b := range 256 {
-				changes = append(changes, text[:i]+string([]byte{byte(b)})+text[i+1:])
-			}
-		}
-		for _, change := range changes {
-			l, ok := impl.ReadLand(change)
-			if ok && (!impl.ValidLand(l) || landsText(l) != change) || !ok && !impl.SameLand(l, impl.Land{}) {
-				t.Errorf("ReadLand(%q) = %v, %v", change, l, ok)
-			}
-		}
+	texts := []string{"-10 0 -5\n", "7\n-7\n10\n", "1 2\n3 -4\n", "2000 -2000\n", "0\n"}
+	checkReader(t, texts, impl.ReadLand, textOfValidLand, func(l impl.Land) bool { return impl.SameLand(l, impl.Land{}) })
+}
+
+// textOfValidLand writes a land by the definition of its text, if it is valid.
+func textOfValidLand(l impl.Land) string {
+	if !impl.ValidLand(l) {
+		return "no land"
 	}
+	return landsText(l)
 }
 
 // TestReadLandByText holds all short texts against the definition: a text is read just if it is the
@@ -780,7 +771,7 @@ func sameResults(a, b map[string]landResult) bool {
 func TestReadLandIsPure(t *testing.T) {
 	for _, text := range append([]string{"-10 0 -5\n", "1\n2\n", "1 2\n3\n"}, oddTexts...) {
 		first, ok := impl.ReadLand(text)
-		want := land(first.Rows, first.Columns, slices.Clone(first.Heights)...)
+		want := copyOfLand(first)
 		overwrite(first.Heights)
 		if again, okAgain := impl.ReadLand(strings.Clone(text)); !impl.SameLand(again, want) || okAgain != ok {
 			t.Errorf("ReadLand of %q differs", text)

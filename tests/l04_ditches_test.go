@@ -17,6 +17,10 @@ func net(junctions int64, ditches ...impl.Ditch) impl.Net {
 	return impl.Net{Junctions: junctions, Ditches: ditches}
 }
 
+func copyOfNet(n impl.Net) impl.Net {
+	return net(n.Junctions, slices.Clone(n.Ditches)...)
+}
+
 func ditch(from, to, flow int64) impl.Ditch { return impl.Ditch{From: from, To: to, Flow: flow} }
 
 // fullNet has as many ditches as there may be, all of them with the greatest flow to the outlet.
@@ -265,13 +269,7 @@ func TestSameNet(t *testing.T) {
 		net(3, ditch(1, 0, 1)), net(3, ditch(1, 0, 2)), net(3, ditch(1, 2, 1)), net(3, ditch(2, 0, 1)), net(3), net(4),
 		net(0), net(0, ditch(0, 0, 0)), net(0, ditch(0, 0, 0), ditch(0, 0, 0)), net(-1, ditch(9, 9, 9)), net(math.MinInt64), net(math.MaxInt64),
 	}
-	for i, a := range different {
-		for k, b := range different {
-			if got := impl.SameNet(a, net(b.Junctions, slices.Clone(b.Ditches)...)); got != (i == k) {
-				t.Errorf("SameNet(%v, %v) = %v", a, b, got)
-			}
-		}
-	}
+	checkDiffer(t, different, copyOfNet, impl.SameNet)
 	if !impl.SameNet(impl.Net{}, impl.Net{Ditches: []impl.Ditch{}}) || !impl.SameNet(impl.Net{Ditches: []impl.Ditch{}}, impl.Net{}) {
 		t.Error("nil and empty Ditches are told to differ")
 	}
@@ -715,31 +713,17 @@ func TestNoTextsOfNets(t *testing.T) {
 	}
 }
 
-// TestReadNetOnChanges changes, removes and doubles each byte of texts of nets: what is read must be
-// valid, and have just this text.
 func TestReadNetOnChanges(t *testing.T) {
-	for _, text := range []string{"3: 2>1=5 1>0=3 2>0=4", "2:", "10: 9>0=1000", "2: 0>1=0", "4: 1>2=10"} {
-		read := 0
-		for i := range text {
-			changes := []string{text[:i] + text[i+1:], text[:i+1] + text[i:]}
-			for b := range 256 {
-				changed := text[:i] + string([]byte{byte(b)}) + text[i+1:]
-				changes = append(changes, changed, text[:i]+string([]byte{byte(b)})+text[i:])
-			}
-			for _, change := range changes {
-				n, ok := impl.ReadNet(change)
-				if ok && (!impl.ValidNet(n) || netsText(n) != change) || !ok && !impl.SameNet(n, impl.Net{}) {
-					t.Errorf("ReadNet(%q) = %v, %v", change, n, ok)
-				}
-				if ok {
-					read++
-				}
-			}
-		}
-		if read == 0 {
-			t.Errorf("no change of %q is read", text)
-		}
+	texts := []string{"3: 2>1=5 1>0=3 2>0=4", "2:", "10: 9>0=1000", "2: 0>1=0", "4: 1>2=10"}
+	checkReader(t, texts, impl.ReadNet, textOfValidNet, func(n impl.Net) bool { return impl.SameNet(n, impl.Net{}) })
+}
+
+// textOfValidNet writes a net by the definition of its text, if it is valid.
+func textOfValidNet(n impl.Net) string {
+	if !impl.ValidNet(n) {
+		return "no net"
 	}
+	return netsText(n)
 }
 
 // TestNetFunctionsArePure is promise 1 for all functions of chapter 4 with a net: they return, change
