@@ -120,6 +120,16 @@ func checkReader[V any](t *testing.T, texts []string, read func(string) (V, bool
 	}
 }
 
+// checkNotRead reads texts, and all odd ones, of which none may be read.
+func checkNotRead[V any](t *testing.T, texts []string, read func(string) (V, bool), isZero func(V) bool) {
+	t.Helper()
+	for _, text := range slices.Concat(texts, oddTexts) {
+		if v, ok := read(text); ok || !isZero(v) {
+			t.Errorf("%q is read as %v, %v", text, v, ok)
+		}
+	}
+}
+
 // checkDiffer compares all values with copies of each other: each must be the same as itself only.
 func checkDiffer[V any](t *testing.T, values []V, copyOf func(V) V, same func(a, b V) bool) {
 	t.Helper()

@@ -650,17 +650,15 @@ func TestNoTextsOfLands(t *testing.T) {
 		wide, wide + wide, high, strings.Repeat("0 0\n", 13), strings.Repeat("\n", 5000), strings.Repeat("1 ", 5000) + "\n",
 		strings.Repeat("1\n", 5000), strings.Repeat(wide, 144),
 	}
-	for _, s := range append(no, oddTexts...) {
-		if l, ok := impl.ReadLand(s); !impl.SameLand(l, impl.Land{}) || ok {
-			t.Errorf("ReadLand(%q) = %v, %v", s, l, ok)
-		}
-	}
+	checkNotRead(t, no, impl.ReadLand, isZeroLand)
 }
 
 func TestReadLandOnChanges(t *testing.T) {
 	texts := []string{"-10 0 -5\n", "7\n-7\n10\n", "1 2\n3 -4\n", "2000 -2000\n", "0\n"}
-	checkReader(t, texts, impl.ReadLand, textOfValidLand, func(l impl.Land) bool { return impl.SameLand(l, impl.Land{}) })
+	checkReader(t, texts, impl.ReadLand, textOfValidLand, isZeroLand)
 }
+
+func isZeroLand(l impl.Land) bool { return impl.SameLand(l, impl.Land{}) }
 
 // textOfValidLand writes a land by the definition of its text, if it is valid.
 func textOfValidLand(l impl.Land) string {

@@ -602,7 +602,7 @@ func TestWorstDitch(t *testing.T) {
 			t.Errorf("WorstDitch(%v, %d) = %d, %d, not %d", c.n, c.from, got, code, c.want)
 		}
 	}
-	for _, n := range slices.Concat(randomNets(5, 10, 3), randomNets(6, 10, 1000), oddNets()) {
+	for _, n := range slices.Concat(randomNets(5, 4, 3), randomNets(6, 4, 1000), oddNets()) {
 		for from := int64(1); from < n.Junctions; from++ {
 			want, least := int64(0), int64(math.MaxInt64)
 			for k := range n.Ditches {
@@ -706,17 +706,15 @@ func TestNoTextsOfNets(t *testing.T) {
 		"2:" + strings.Repeat(" 1>0=1", 21), "2:" + strings.Repeat(" 1>0=1", 5000), strings.Repeat(":", 5000), "2:" + strings.Repeat(" ", 5000),
 		"2: 1" + strings.Repeat(">", 5000), "2:" + strings.Repeat(" 1>0=1", 20) + " ", "10: 9>10=1", "10: 10>9=1",
 	}
-	for _, s := range append(no, oddTexts...) {
-		if n, ok := impl.ReadNet(s); !impl.SameNet(n, impl.Net{}) || ok {
-			t.Errorf("ReadNet(%q) = %v, %v", s, n, ok)
-		}
-	}
+	checkNotRead(t, no, impl.ReadNet, isZeroNet)
 }
 
 func TestReadNetOnChanges(t *testing.T) {
 	texts := []string{"3: 2>1=5 1>0=3 2>0=4", "2:", "10: 9>0=1000", "2: 0>1=0", "4: 1>2=10"}
-	checkReader(t, texts, impl.ReadNet, textOfValidNet, func(n impl.Net) bool { return impl.SameNet(n, impl.Net{}) })
+	checkReader(t, texts, impl.ReadNet, textOfValidNet, isZeroNet)
 }
+
+func isZeroNet(n impl.Net) bool { return impl.SameNet(n, impl.Net{}) }
 
 // textOfValidNet writes a net by the definition of its text, if it is valid.
 func textOfValidNet(n impl.Net) string {
