@@ -85,6 +85,16 @@ func codeFor(isValid, inRange bool) int64 {
 
 func within(n, low, high int64) bool { return low <= n && n <= high }
 
+// areIncreasing reports whether a list is strictly increasing, from low at least to high at most.
+func areIncreasing(list []int64, low, high int64) bool {
+	for i, n := range list {
+		if !within(n, low, high) || i > 0 && list[i-1] >= n {
+			return false
+		}
+	}
+	return true
+}
+
 func isSmallLetter(r rune) bool { return 'a' <= r && r <= 'z' }
 
 func isDigit(r rune) bool { return '0' <= r && r <= '9' }
