@@ -85,6 +85,14 @@ func codeFor(isValid, inRange bool) int64 {
 
 func within(n, low, high int64) bool { return low <= n && n <= high }
 
+func sumOf[N int | int64](numbers ...N) N {
+	var sum N
+	for _, n := range numbers {
+		sum += n
+	}
+	return sum
+}
+
 // areIncreasing reports whether a list is strictly increasing, from low at least to high at most.
 func areIncreasing(list []int64, low, high int64) bool {
 	for i, n := range list {

@@ -49,11 +49,7 @@ func MeanLevel(list []int64) (Fraction, int64) {
 	if len(list) == 0 {
 		return Fraction{}, ErrNotFound
 	}
-	sum := int64(0)
-	for _, level := range list {
-		sum += level
-	}
-	return lowestTerms(sum, int64(len(list))), OK
+	return lowestTerms(sumOf(list...), int64(len(list))), OK
 }
 
 // MedianLevel returns the middle of levels.
