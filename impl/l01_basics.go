@@ -72,6 +72,15 @@ func SplitWords(s string) []string {
 	return strings.FieldsFunc(s, func(r rune) bool { return r == ' ' })
 }
 
+// readPair returns the numbers before and behind a mark, and 0 for what is none. That is
+// enough for a reader that holds the text of what it has read against the one it was given.
+func readPair(s, mark string) (int64, int64) {
+	first, second, _ := strings.Cut(s, mark)
+	before, _ := ReadDecimal(first)
+	behind, _ := ReadDecimal(second)
+	return before, behind
+}
+
 // codeFor returns the first error of an argument, and of what is told with it.
 func codeFor(isValid, inRange bool) int64 {
 	if !isValid {

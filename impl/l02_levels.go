@@ -3,6 +3,7 @@ package impl
 import (
 	"cmp"
 	"slices"
+	"sort"
 	"strings"
 )
 
@@ -33,6 +34,13 @@ type levelParts struct {
 	sign        string
 	metres      int64
 	centimetres int64
+}
+
+// fillable is what takes more cubic metres the higher it is filled: land and storage take
+// water, a dike takes clay.
+type fillable interface {
+	// volumeAt returns what it takes up to a level; this never falls while the level rises.
+	volumeAt(level int64) int64
 }
 
 // ValidLevel reports whether a number is a level.
@@ -175,6 +183,12 @@ func areGauges(list []int64) bool {
 		}
 	}
 	return len(list) <= MaxGauges
+}
+
+// leastLevel returns the least level from low to high up to which f takes a volume, or more;
+// high + 1 if there is none.
+func leastLevel(f fillable, low, high, volume int64) int64 {
+	return low + int64(sort.Search(int(high-low+1), func(n int) bool { return f.volumeAt(low+int64(n)) >= volume }))
 }
 
 func middleOf(list []int64) int64 {
