@@ -130,6 +130,21 @@ func checkNotRead[V any](t *testing.T, texts []string, read func(string) (V, boo
 	}
 }
 
+// checkValidity has all good values told to be valid, and no bad one.
+func checkValidity[V any](t *testing.T, isValid func(V) bool, good, bad []V) {
+	t.Helper()
+	for _, v := range good {
+		if !isValid(v) {
+			t.Errorf("%v is told not to be valid", v)
+		}
+	}
+	for _, v := range bad {
+		if isValid(v) {
+			t.Errorf("%v is told to be valid", v)
+		}
+	}
+}
+
 // checkDiffer compares all values with copies of each other: each must be the same as itself only.
 func checkDiffer[V any](t *testing.T, values []V, copyOf func(V) V, same func(a, b V) bool) {
 	t.Helper()

@@ -120,16 +120,7 @@ func TestValidLand(t *testing.T) {
 	if impl.MaxSide != 12 {
 		t.Error("the limit is wrong")
 	}
-	for _, l := range allLands() {
-		if !impl.ValidLand(l) {
-			t.Errorf("%v is told not to be valid", l)
-		}
-	}
-	for _, l := range badLands() {
-		if impl.ValidLand(l) {
-			t.Errorf("%v is told to be valid", l)
-		}
-	}
+	checkValidity(t, impl.ValidLand, allLands(), badLands())
 }
 
 // TestValidLandByShape holds all small shapes, with too few and too many heights, against the definition.

@@ -234,16 +234,7 @@ func TestValidNet(t *testing.T) {
 	if impl.MaxJunctions != 10 || impl.MaxDitches != 20 || impl.MaxDitchFlow != 1000 {
 		t.Error("a limit is wrong")
 	}
-	for _, n := range allNets() {
-		if !impl.ValidNet(n) {
-			t.Errorf("%v is told not to be valid", n)
-		}
-	}
-	for _, n := range badNets() {
-		if impl.ValidNet(n) {
-			t.Errorf("%v is told to be valid", n)
-		}
-	}
+	checkValidity(t, impl.ValidNet, allNets(), badNets())
 }
 
 // TestValidNetByDitch has ditches around all limits, at each place.

@@ -138,16 +138,7 @@ func TestValidCurve(t *testing.T) {
 	if impl.MaxKnots != 12 || impl.MaxVolume != 1000000000 {
 		t.Error("the limits are wrong")
 	}
-	for _, c := range allCurves() {
-		if !impl.ValidCurve(c) {
-			t.Errorf("%v is told not to be valid", c)
-		}
-	}
-	for _, c := range badCurves() {
-		if impl.ValidCurve(c) {
-			t.Errorf("%v is told to be valid", c)
-		}
-	}
+	checkValidity(t, impl.ValidCurve, allCurves(), badCurves())
 	for knots := range int64(15) {
 		if got := impl.ValidCurve(evenCurve(knots, 0, 1, 1)); got != (knots >= 2 && knots <= 12) {
 			t.Errorf("%d knots: %v", knots, got)

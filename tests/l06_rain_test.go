@@ -95,16 +95,7 @@ func TestValidRain(t *testing.T) {
 	if impl.MaxRainDays != 120 || impl.MaxRain != 3000 {
 		t.Error("the limits are wrong")
 	}
-	for _, list := range allRain() {
-		if !impl.ValidRain(list) {
-			t.Errorf("%v is told to be no rain", list)
-		}
-	}
-	for _, list := range badRain() {
-		if impl.ValidRain(list) {
-			t.Errorf("%v is told to be rain", list)
-		}
-	}
+	checkValidity(t, impl.ValidRain, allRain(), badRain())
 	for many := range 130 {
 		if got := impl.ValidRain(filled(many, 5)); got != (many >= 1 && many <= 120) {
 			t.Errorf("%d days: %v", many, got)
