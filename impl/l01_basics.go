@@ -81,6 +81,34 @@ func readPair(s, mark string) (int64, int64) {
 	return before, behind
 }
 
+// joinWords returns the text with a word for each element of a list, separated by single blanks.
+func joinWords[E any](list []E, word func(E) string) string {
+	words := make([]string, len(list))
+	for k, element := range list {
+		words[k] = word(element)
+	}
+	return strings.Join(words, " ")
+}
+
+// readWords returns the element that each word of a text is read as.
+func readWords[E any](s string, read func(word string) E) []E {
+	var list []E
+	for _, word := range SplitWords(s) {
+		list = append(list, read(word))
+	}
+	return list
+}
+
+// readList returns the list with a text that has a word for each element, and whether there is one. A list
+// has one text only, none if it is not valid, and this differs from s wherever that is not read as it stands.
+func readList[E any](s string, read func(word string) E, textOf func(list []E) string) ([]E, bool) {
+	list := readWords(s, read)
+	if s == "" || textOf(list) != s {
+		return nil, false
+	}
+	return list, true
+}
+
 // codeFor returns the first error of an argument, and of what is told with it.
 func codeFor(isValid, inRange bool) int64 {
 	if !isValid {
@@ -110,6 +138,17 @@ func areIncreasing(list []int64, low, high int64) bool {
 		}
 	}
 	return true
+}
+
+// indicesWhere returns the indices from 0 to many - 1 that have something, in ascending order.
+func indicesWhere(many int, has func(k int) bool) []int64 {
+	var indices []int64
+	for k := range many {
+		if has(k) {
+			indices = append(indices, int64(k))
+		}
+	}
+	return indices
 }
 
 func isSmallLetter(r rune) bool { return 'a' <= r && r <= 'z' }

@@ -91,13 +91,7 @@ func WrongGauges(list []int64, most int64) ([]int64, int64) {
 		return nil, OK
 	}
 	middle := middleOf(list)
-	var wrong []int64
-	for i, level := range list {
-		if !within(level, middle-most, middle+most) {
-			wrong = append(wrong, int64(i))
-		}
-	}
-	return wrong, OK
+	return indicesWhere(len(list), func(k int) bool { return !within(list[k], middle-most, middle+most) }), OK
 }
 
 // SlopeBetween returns the slope of the water between two gauges.
@@ -113,13 +107,7 @@ func RisesFast(list []int64, by int64) ([]int64, int64) {
 	if !areGauges(list) || !within(by, 1, maxDifference) {
 		return nil, ErrRange
 	}
-	var rises []int64
-	for i := 1; i < len(list); i++ {
-		if list[i]-list[i-1] >= by {
-			rises = append(rises, int64(i))
-		}
-	}
-	return rises, OK
+	return indicesWhere(len(list), func(k int) bool { return k > 0 && list[k]-list[k-1] >= by }), OK
 }
 
 // ShareOut divides a number by weights.
