@@ -1,6 +1,9 @@
 package impl
 
 import (
+	"cmp"
+	"iter"
+	"slices"
 	"strconv"
 	"strings"
 )
@@ -130,6 +133,11 @@ func sumOf[N int | int64](numbers ...N) N {
 	return sum
 }
 
+// areWithin reports whether all numbers of a list are from low to high.
+func areWithin(list []int64, low, high int64) bool {
+	return !slices.ContainsFunc(list, func(n int64) bool { return !within(n, low, high) })
+}
+
 // areIncreasing reports whether a list is strictly increasing, from low at least to high at most.
 func areIncreasing(list []int64, low, high int64) bool {
 	for i, n := range list {
@@ -149,6 +157,44 @@ func indicesWhere(many int, has func(k int) bool) []int64 {
 		}
 	}
 	return indices
+}
+
+// fallingOrder returns the indices from 0 to many - 1 by falling sizes, those with equal ones by their order.
+func fallingOrder(many int, size func(k int) int64) []int {
+	order := make([]int, many)
+	for k := range order {
+		order[k] = k
+	}
+	slices.SortStableFunc(order, func(a, b int) int { return cmp.Compare(size(b), size(a)) })
+	return order
+}
+
+// zeroSpells goes through the longest stretches of numbers that are 0, in order, with the index of the first
+// one and how many they are.
+func zeroSpells(list []int64) iter.Seq2[int64, int64] {
+	return func(yield func(first, many int64) bool) {
+		many := int64(0)
+		for k, n := range list {
+			if n != 0 {
+				many = 0
+				continue
+			}
+			many++
+			isLast := k == len(list)-1 || list[k+1] != 0
+			if isLast && !yield(int64(k)+1-many, many) {
+				return
+			}
+		}
+	}
+}
+
+// longestZeroSpell returns how many numbers the longest one of the zeroSpells has; 0 if there is none.
+func longestZeroSpell(list []int64) int64 {
+	longest := int64(0)
+	for _, many := range zeroSpells(list) {
+		longest = max(longest, many)
+	}
+	return longest
 }
 
 func isSmallLetter(r rune) bool { return 'a' <= r && r <= 'z' }

@@ -1,7 +1,6 @@
 package impl
 
 import (
-	"cmp"
 	"slices"
 	"sort"
 	"strings"
@@ -96,7 +95,7 @@ func WrongGauges(list []int64, most int64) ([]int64, int64) {
 
 // SlopeBetween returns the slope of the water between two gauges.
 func SlopeBetween(a, b, metres int64) (Fraction, int64) {
-	if !ValidLevel(a) || !ValidLevel(b) || !within(metres, 1, maxMetres) {
+	if !areLevels(a, b) || !within(metres, 1, maxMetres) {
 		return Fraction{}, ErrRange
 	}
 	return lowestTerms(b-a, metres), OK
@@ -125,7 +124,8 @@ func ShareOut(total int64, weights []int64) ([]int64, int64) {
 		shares[i] = total * weight / sum
 		left -= shares[i]
 	}
-	for _, i := range greatestRemainders(total, sum, weights)[:left] {
+	byRemainder := fallingOrder(len(weights), func(i int) int64 { return total * weights[i] % sum })
+	for _, i := range byRemainder[:left] {
 		shares[i]++
 	}
 	return shares, OK
@@ -164,14 +164,9 @@ func ReadLevel(s string) (int64, bool) {
 }
 
 // areGauges reports whether a list has levels only, and not too many.
-func areGauges(list []int64) bool {
-	for _, level := range list {
-		if !ValidLevel(level) {
-			return false
-		}
-	}
-	return len(list) <= MaxGauges
-}
+func areGauges(list []int64) bool { return areLevels(list...) && len(list) <= MaxGauges }
+
+func areLevels(levels ...int64) bool { return areWithin(levels, MinLevel, MaxLevel) }
 
 // leastLevel returns the least level from low to high up to which f takes a volume, or more;
 // high + 1 if there is none.
@@ -198,19 +193,6 @@ func sumOfWeights(weights []int64) (int64, bool) {
 		sum += weight
 	}
 	return sum, sum <= MaxShared
-}
-
-// greatestRemainders returns the indices of the weights by falling remainders,
-// those with equal ones by their order.
-func greatestRemainders(total, sum int64, weights []int64) []int {
-	order := make([]int, len(weights))
-	for i := range order {
-		order[i] = i
-	}
-	slices.SortStableFunc(order, func(a, b int) int {
-		return cmp.Compare(total*weights[b]%sum, total*weights[a]%sum)
-	})
-	return order
 }
 
 // lowestTerms returns num / den; den must be positive.
