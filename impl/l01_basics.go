@@ -133,9 +133,14 @@ func sumOf[N int | int64](numbers ...N) N {
 	return sum
 }
 
+// allAre reports whether all elements of a list are something.
+func allAre[E any](list []E, is func(element E) bool) bool {
+	return !slices.ContainsFunc(list, func(element E) bool { return !is(element) })
+}
+
 // areWithin reports whether all numbers of a list are from low to high.
 func areWithin(list []int64, low, high int64) bool {
-	return !slices.ContainsFunc(list, func(n int64) bool { return !within(n, low, high) })
+	return allAre(list, func(n int64) bool { return within(n, low, high) })
 }
 
 // areIncreasing reports whether a list is strictly increasing, from low at least to high at most.
@@ -158,6 +163,9 @@ func indicesWhere(many int, has func(k int) bool) []int64 {
 	}
 	return indices
 }
+
+// firstLeast returns the index of the first one of the least numbers of a list, which must not be empty.
+func firstLeast(list []int64) int64 { return int64(slices.Index(list, slices.Min(list))) }
 
 // fallingOrder returns the indices from 0 to many - 1 by falling sizes, those with equal ones by their order.
 func fallingOrder(many int, size func(k int) int64) []int {
