@@ -1,6 +1,7 @@
 package tests
 
 import (
+	"maps"
 	"math"
 	"slices"
 	"strings"
@@ -200,5 +201,49 @@ func checkZero(t *testing.T, name, result, zero string) {
 	t.Helper()
 	if code := result[strings.LastIndexByte(result, ' ')+1:]; code != "0" && result != zero+" "+code {
 		t.Fatalf("%s: %s", name, result)
+	}
+}
+
+// together returns a function that makes all checks.
+func together(t *testing.T, checks ...func()) func() {
+	return func() {
+		t.Helper()
+		for _, check := range checks {
+			check()
+		}
+	}
+}
+
+// arguments are an argument of each kind for the functions of a chapter.
+type arguments[A any] interface {
+	// calls are all of these functions, with their results as texts.
+	calls() map[string]string
+	// withGuards returns the arguments with marks in all unused capacity, and a function that fails if anything has been changed.
+	withGuards(t *testing.T) (A, func())
+	// withCopies returns the arguments with copies of their lists, which have no unused capacity.
+	withCopies() A
+}
+
+// checkCallsPure calls all functions twice with equal arguments, and fails if the results differ, or if an argument has been changed.
+func checkCallsPure[A arguments[A]](t *testing.T, a A) {
+	t.Helper()
+	with, unchanged := a.withGuards(t)
+	first := with.calls()
+	unchanged()
+	if again := a.withCopies().calls(); !maps.Equal(first, again) {
+		t.Fatalf("%v: %v is followed by %v", a, first, again)
+	}
+}
+
+// checkOneList is checkCallsPure for arguments of which several have the same list as their memory.
+func checkOneList[A arguments[A]](t *testing.T, a A, list []int64) {
+	t.Helper()
+	before := slices.Clone(list)
+	first := a.calls()
+	if !slices.Equal(list, before) {
+		t.Fatalf("%v has been changed to %v", before, list)
+	}
+	if again := a.withCopies().calls(); !maps.Equal(first, again) {
+		t.Fatalf("%v: %v is followed by %v", a, first, again)
 	}
 }

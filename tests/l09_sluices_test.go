@@ -2,7 +2,6 @@ package tests
 
 import (
 	"fmt"
-	"maps"
 	"math"
 	"math/rand"
 	"slices"
@@ -1179,12 +1178,7 @@ func (a sluiceArguments) withGuards(t *testing.T) (sluiceArguments, func()) {
 	a.water.outside, unchanged[2] = guarded(t, a.water.outside, spareMark)
 	a.open, unchanged[3] = guarded(t, a.open, true)
 	a.states, unchanged[4] = guarded(t, a.states, markGate)
-	return a, func() {
-		t.Helper()
-		for _, check := range unchanged {
-			check()
-		}
-	}
+	return a, together(t, unchanged[:]...)
 }
 
 // withCopies returns the arguments with copies of their lists, which have no unused capacity.
@@ -1218,12 +1212,7 @@ func sluiceRuns() []sluiceArguments {
 // once more.
 func TestSluiceFunctionsArePure(t *testing.T) {
 	for _, a := range sluiceRuns() {
-		with, unchanged := a.withGuards(t)
-		first := with.calls()
-		unchanged()
-		if again := a.withCopies().calls(); !maps.Equal(first, again) {
-			t.Fatalf("%v: %v is followed by %v", a, first, again)
-		}
+		checkCallsPure(t, a)
 		a.checkCodes(t)
 	}
 	texts := func() string {
@@ -1258,14 +1247,7 @@ func TestOneListForAll(t *testing.T) {
 	s := sluices()[0]
 	for _, list := range append(oddLists(), []int64{0, 2, 0}, []int64{2, 2}, []int64{0, 1, 2}, filled(200, 1), filled(201, 2)) {
 		a := sluiceArguments{sluice: s, number: 1, orders: list, water: water{list, list}, open: make([]bool, len(list))}
-		before := slices.Clone(list)
-		first := a.calls()
-		if !slices.Equal(list, before) {
-			t.Fatalf("%v has been changed to %v", before, list)
-		}
-		if again := a.withCopies().calls(); !maps.Equal(first, again) {
-			t.Fatalf("%v: %v is followed by %v", a, first, again)
-		}
+		checkOneList(t, a, list)
 		a.checkCodes(t)
 		if a.isInRange()["RunSluice"] {
 			checkRun(t, s, list, a.water)

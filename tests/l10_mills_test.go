@@ -1008,12 +1008,7 @@ func (a millArguments) withGuards(t *testing.T) (millArguments, func()) {
 	a.mills, unchanged[0] = guarded(t, a.mills, markMill)
 	a.stages, unchanged[1] = guardedStages(t, a.stages)
 	a.forces, unchanged[2] = guarded(t, a.forces, spareMark)
-	return a, func() {
-		t.Helper()
-		for _, check := range unchanged {
-			check()
-		}
-	}
+	return a, together(t, unchanged[:]...)
 }
 
 // withCopies returns the arguments with copies of their lists, which have no unused capacity.

@@ -1207,12 +1207,7 @@ func floodRuns() map[bool][]floodArguments {
 func TestFloodFunctionsArePure(t *testing.T) {
 	for isValid, runs := range floodRuns() {
 		for _, a := range runs {
-			with, unchanged := a.withGuards(t)
-			first := with.calls()
-			unchanged()
-			if again := a.withCopies().calls(); !maps.Equal(first, again) {
-				t.Fatalf("%v: %v is followed by %v", a, first, again)
-			}
+			checkCallsPure(t, a)
 			a.checkCodes(t, isValid)
 		}
 	}
@@ -1245,14 +1240,7 @@ func TestOneListForHeightsAndCells(t *testing.T) {
 		l := land(1, int64(len(list)), list...)
 		isValid := len(list) >= 1 && len(list) <= 12 && slices.Min(list) >= -2000 && slices.Max(list) <= 2000
 		a := floodArguments{land: l, dry: 2, level: 9, volume: 3, outlets: list, ways: [][]int64{list}}
-		before := slices.Clone(list)
-		first := a.calls()
-		if !slices.Equal(list, before) {
-			t.Fatalf("%v has been changed to %v", before, list)
-		}
-		if again := a.withCopies().calls(); !maps.Equal(first, again) {
-			t.Fatalf("%v: %v is followed by %v", a, first, again)
-		}
+		checkOneList(t, a, list)
 		a.checkCodes(t, isValid)
 	}
 }
