@@ -75,13 +75,17 @@ func SplitWords(s string) []string {
 	return strings.FieldsFunc(s, func(r rune) bool { return r == ' ' })
 }
 
-// readPair returns the numbers before and behind a mark, and 0 for what is none. That is
-// enough for a reader that holds the text of what it has read against the one it was given.
+// readNumber returns the number with a decimal form, and 0 if there is none. That is enough
+// for a reader that holds the text of what it has read against the one it was given.
+func readNumber(s string) int64 {
+	n, _ := ReadDecimal(s)
+	return n
+}
+
+// readPair returns the numbers before and behind a mark, as readNumber does.
 func readPair(s, mark string) (int64, int64) {
-	first, second, _ := strings.Cut(s, mark)
-	before, _ := ReadDecimal(first)
-	behind, _ := ReadDecimal(second)
-	return before, behind
+	before, behind, _ := strings.Cut(s, mark)
+	return readNumber(before), readNumber(behind)
 }
 
 // joinWords returns the text with a word for each element of a list, separated by single blanks.

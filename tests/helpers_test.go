@@ -121,6 +121,29 @@ func checkReader[V any](t *testing.T, texts []string, read func(string) (V, bool
 	}
 }
 
+// checkReadBack has all good values written as their texts tell, and read back; bad ones are not written, and what would be their
+// texts is not read.
+func checkReadBack[V comparable](t *testing.T, good, bad []V, textOf func(V) string, write func(V) string, read func(string) (V, bool)) {
+	t.Helper()
+	for _, v := range good {
+		if got := write(v); got != textOf(v) {
+			t.Errorf("%v is written as %q", v, got)
+		}
+		if got, ok := read(textOf(v)); got != v || !ok {
+			t.Errorf("%q is read as %v, %v", textOf(v), got, ok)
+		}
+	}
+	var zero V
+	for _, v := range bad {
+		if got := write(v); got != "" {
+			t.Errorf("%v is written as %q", v, got)
+		}
+		if got, ok := read(textOf(v)); got != zero || ok {
+			t.Errorf("%q is read as %v, %v", textOf(v), got, ok)
+		}
+	}
+}
+
 // checkNotRead reads texts, and all odd ones, of which none may be read.
 func checkNotRead[V any](t *testing.T, texts []string, read func(string) (V, bool), isZero func(V) bool) {
 	t.Helper()
@@ -199,8 +222,22 @@ func checkFresh[E comparable](t *testing.T, call func() []E, mark E, unchanged f
 // anything but the zero value, as which zero is written.
 func checkZero(t *testing.T, name, result, zero string) {
 	t.Helper()
-	if code := result[strings.LastIndexByte(result, ' ')+1:]; code != "0" && result != zero+" "+code {
+	if code := codeIn(result); code != "0" && result != zero+" "+code {
 		t.Fatalf("%s: %s", name, result)
+	}
+}
+
+// codeIn is the code of a result that is written with it at the end.
+func codeIn(result string) string { return result[strings.LastIndexByte(result, ' ')+1:] }
+
+// checkErrors is checkZero for a call with arguments of which is known whether they are valid, and whether they are in range: it has
+// ErrInvalid come just for what is not valid, before all other errors, and ErrRange just for what is valid and not in range.
+func checkErrors(t *testing.T, name string, arguments any, result, zero string, isValid, isInRange bool) {
+	t.Helper()
+	checkZero(t, name, result, zero)
+	code := codeIn(result)
+	if (code == "1") != !isValid || (code == "2") != (isValid && !isInRange) {
+		t.Fatalf("%s with %v: %s", name, arguments, result)
 	}
 }
 
