@@ -1105,17 +1105,12 @@ func (a sluiceArguments) isInRange() map[string]bool {
 	}
 }
 
-// checkCodes has ErrInvalid come just for what is not valid, before all other errors, and ErrRange just for what is valid
-// and not in range; with an error, everything else is zero.
+// checkCodes has the first errors come just where they should.
 func (a sluiceArguments) checkCodes(t *testing.T) {
 	t.Helper()
 	isValid, isInRange := a.isValid(), a.isInRange()
 	for name, got := range a.calls() {
-		checkZero(t, name, got, noSluiceResults[name])
-		isErrInvalid, isErrRange := got == noSluiceResults[name]+" 1", got == noSluiceResults[name]+" 2"
-		if isErrInvalid != !isValid[name] || isErrRange != (isValid[name] && !isInRange[name]) {
-			t.Fatalf("%s with %v: %s", name, a, got)
-		}
+		checkErrors(t, name, a, got, noSluiceResults[name], isValid[name], isInRange[name])
 	}
 }
 

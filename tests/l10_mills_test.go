@@ -812,22 +812,8 @@ func textOfValidMill(m impl.Mill) string {
 func isZeroMill(m impl.Mill) bool { return m == impl.Mill{} }
 
 func TestMillsAreReadBack(t *testing.T) {
-	for _, m := range slices.Concat(slices.Concat(manyMills()...), limitMills()) {
-		if got := impl.MillText(m); got != millsText(m) {
-			t.Errorf("MillText(%v) = %q", m, got)
-		}
-		if got, ok := impl.ReadMill(millsText(m)); got != m || !ok {
-			t.Errorf("ReadMill(%q) = %v, %v", millsText(m), got, ok)
-		}
-	}
-	for _, m := range badMills() {
-		if got := impl.MillText(m); got != "" {
-			t.Errorf("MillText(%v) = %q", m, got)
-		}
-		if got, ok := impl.ReadMill(millsText(m)); !isZeroMill(got) || ok {
-			t.Errorf("ReadMill(%q) = %v, %v", millsText(m), got, ok)
-		}
-	}
+	good := slices.Concat(slices.Concat(manyMills()...), limitMills())
+	checkReadBack(t, good, badMills(), millsText, impl.MillText, impl.ReadMill)
 }
 
 func TestNoTextsOfMills(t *testing.T) {
@@ -918,17 +904,12 @@ func (a millArguments) isInRange() map[string]bool {
 	}
 }
 
-// checkCodes has ErrInvalid come just for what is not valid, before all other errors, and ErrRange just for what is valid
-// and not in range; with an error, everything else is zero.
+// checkCodes has the first errors come just where they should.
 func (a millArguments) checkCodes(t *testing.T) {
 	t.Helper()
 	isValid, isInRange := a.isValid(), a.isInRange()
 	for name, got := range a.calls() {
-		checkZero(t, name, got, noMillResults[name])
-		isErrInvalid, isErrRange := got == noMillResults[name]+" 1", got == noMillResults[name]+" 2"
-		if isErrInvalid != !isValid[name] || isErrRange != (isValid[name] && !isInRange[name]) {
-			t.Fatalf("%s with %v: %s", name, a, got)
-		}
+		checkErrors(t, name, a, got, noMillResults[name], isValid[name], isInRange[name])
 	}
 }
 

@@ -1099,17 +1099,12 @@ func (a floodArguments) isInRange() map[string]bool {
 	}
 }
 
-// checkCodes has ErrInvalid come just for a land that is not valid, before all other errors, ErrRange just for what is not in range
-// with one that is, and ErrState just where dry is the cell, or next to it; with an error, everything else is zero.
+// checkCodes has the first errors come just where they should, and ErrState just where dry is the cell, or next to it.
 func (a floodArguments) checkCodes(t *testing.T, isValid bool) {
 	t.Helper()
 	isInRange := a.isInRange()
 	for name, got := range a.calls() {
-		checkZero(t, name, got, noFloodResults[name])
-		isErrInvalid, isErrRange := got == noFloodResults[name]+" 1", got == noFloodResults[name]+" 2"
-		if isErrInvalid != !isValid || isErrRange != (isValid && !isInRange[name]) {
-			t.Fatalf("%s with %v: %s", name, a, got)
-		}
+		checkErrors(t, name, a, got, noFloodResults[name], isValid, isInRange[name])
 		isWall := name == "FewestWall" || name == "AreDisjointWays"
 		isErrState := isWall && isValid && isInRange[name] && (a.cell == a.dry || areNext(a.land, a.cell, a.dry))
 		if (got == noFloodResults[name]+" 6") != isErrState {

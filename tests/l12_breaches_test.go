@@ -834,24 +834,11 @@ func TestBreachesAreReadBack(t *testing.T) {
 	if got := impl.BreachText(example); got != "10m sill -50 water 0" {
 		t.Errorf("BreachText(%v) = %q", example, got)
 	}
+	good := []impl.Breach{{}, {Width: 1000, Sill: -2000, Water: 1000000000}}
 	for _, c := range breachCurves() {
-		for _, b := range append(breachesOf(c), impl.Breach{}, impl.Breach{Width: 1000, Sill: -2000, Water: 1000000000}) {
-			if got := impl.BreachText(b); got != breachesText(b) {
-				t.Errorf("BreachText(%v) = %q", b, got)
-			}
-			if got, ok := impl.ReadBreach(breachesText(b)); got != b || !ok {
-				t.Errorf("ReadBreach(%q) = %v, %v", breachesText(b), got, ok)
-			}
-		}
+		good = append(good, breachesOf(c)...)
 	}
-	for _, b := range badBreaches() {
-		if got := impl.BreachText(b); got != "" {
-			t.Errorf("BreachText(%v) = %q", b, got)
-		}
-		if got, ok := impl.ReadBreach(breachesText(b)); !isZeroBreach(got) || ok {
-			t.Errorf("ReadBreach(%q) = %v, %v", breachesText(b), got, ok)
-		}
-	}
+	checkReadBack(t, good, badBreaches(), breachesText, impl.BreachText, impl.ReadBreach)
 }
 
 func TestNoTextsOfBreaches(t *testing.T) {
@@ -938,17 +925,14 @@ func (a breachArguments) isValid() bool {
 	return impl.ValidCurve(a.curve) && hasText(a.breach) && a.breach.Water <= lastVolume(a.curve)
 }
 
-// checkCodes has ErrInvalid come just for what is not valid, before all other errors, ErrRange just for what is valid and not in range,
-// and other errors just where there may be some; with an error, everything else is zero.
+// checkCodes has the first errors come just where they should, and other ones only where there may be some.
 func (a breachArguments) checkCodes(t *testing.T) {
 	t.Helper()
 	others := map[string]string{"HoursToLevel": "3", "HoursToClose": "3", "StonesNeeded": "3", "LeastStones": "10"}
 	isValid, isInRange := a.isValid(), a.isInRange()
 	for name, got := range a.calls() {
-		checkZero(t, name, got, noBreachResults[name])
-		code := got[strings.LastIndexByte(got, ' ')+1:]
-		isErrInvalid, isErrRange := code == "1", code == "2"
-		if isErrInvalid != !isValid || isErrRange != (isValid && !isInRange[name]) || !isErrInvalid && !isErrRange && code != "0" && code != others[name] {
+		checkErrors(t, name, a, got, noBreachResults[name], isValid, isInRange[name])
+		if !slices.Contains([]string{"0", "1", "2", others[name]}, codeIn(got)) {
 			t.Fatalf("%s with %v: %s", name, a, got)
 		}
 		if impl.ValidBreach(a.curve, a.breach) != isValid {
