@@ -63,8 +63,11 @@ func badBreaches() []impl.Breach {
 }
 
 // insideBy is the level inside by the definition.
-func insideBy(c impl.Curve, b impl.Breach) int64 {
-	level, code := impl.LevelAt(c, b.Water)
+func insideBy(c impl.Curve, b impl.Breach) int64 { return levelWith(c, b.Water) }
+
+// levelWith is the level of a volume that the curve has.
+func levelWith(c impl.Curve, volume int64) int64 {
+	level, code := impl.LevelAt(c, volume)
 	if code != impl.OK {
 		panic("water that is valid has no level")
 	}
